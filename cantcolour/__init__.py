@@ -1,0 +1,1 @@
+"""Colours that can't be: directions in a space, marked or not."""
