@@ -13,16 +13,15 @@ def are_along(one, other):
     return True
 
 
-# For each direction a dict of those behind it that are at right angles to it:
-# the products are taken once for each two, and its keys rise.
-def right_behind(directions):
-    table = []
+# For each direction a dict of those that are at right angles to it. The products are
+# taken once for each two, in such an order that the keys of each dict rise.
+def right_angles(directions):
+    table = [{} for direction in directions]
     for i, one in enumerate(directions):
-        behind = {}
         for j in range(i + 1, len(directions)):
             if products_together(one, directions[j]) == 0:
-                behind[j] = True
-        table.append(behind)
+                table[i][j] = True
+                table[j][i] = True
     return table
 
 
@@ -30,16 +29,15 @@ def grow_sets(begun, table):
     grown = []
     for chosen in begun:
         for j in table[chosen[-1]]:
-            if all([j in table[i] for i in chosen]):
+            if j > chosen[-1] and all([j in table[i] for i in chosen]):
                 grown.append(chosen + (j,))
     return grown
 
 
 # Sets that stand in order still do when each is grown by rising directions,
 # so nothing is to be sorted.
-def complete_sets(directions, dimensions):
-    table = right_behind(directions)
-    found = [(i,) for i in range(len(directions))]
+def complete_sets(table, dimensions):
+    found = [(i,) for i in range(len(table))]
     for size in range(1, dimensions):
         found = grow_sets(found, table)
     return found

@@ -68,3 +68,12 @@ def look(directions, sets):
     calls += [("set", k) for k in range(sets + 1)]
     calls += [("of", i) for i in range(directions + 1)]
     return calls
+
+
+def look_all(directions, sets):
+    """As look, without each two of the directions, but with all calls that change nothing."""
+    marked = [[], [0], [directions - 1]] if directions else [[]]
+    calls = [call for call in look(directions, sets) if call[0] != "right"]
+    calls += [("fits", row) for row in marked]
+    calls += [("shows", []), ("shows", list(range(sets)))]
+    return calls + [("way",), ("ways",), ("seen",), ("needed",), ("state",)]

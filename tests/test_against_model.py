@@ -1,74 +1,13 @@
-"""Many lines of calls, against a model that goes other ways: by shortest form, and by trying all."""
+"""Many lines of calls, against a model that works its answers out another way."""
 
-import itertools
-import math
 import random
 import unittest
 
-from tests.examples import EIGHTEEN, TWENTY_FOUR
-from tests.lines import LARGEST, ask
+from tests.examples import EIGHTEEN, OTHER_SIX, SIX_APART, TWENTY_FOUR, TWENTY_TWO, two_planes
+from tests.lines import LARGEST, NUMBERS, ask
+from tests.model import Model
 
-
-def shortest(row):
-    """The same for all that are along one another, and for these alone."""
-    share = math.gcd(*row)
-    if next(number for number in row if number) < 0:
-        share = -share
-    return tuple(number // share for number in row)
-
-
-class Model:
-    def __init__(self):
-        self.size = None
-        self.rows = []
-
-    def product(self, i, j):
-        return sum(self.rows[i][place] * self.rows[j][place] for place in range(self.size))
-
-    def complete(self):
-        return [
-            chosen for chosen in itertools.combinations(range(len(self.rows)), self.size)
-            if all(self.product(i, j) == 0 for i, j in itertools.combinations(chosen, 2))
-        ]
-
-    def answer(self, name, *arguments):
-        if name == "begin":
-            if arguments[0] not in (2, 3, 4):
-                return [-22]
-            self.size, self.rows = arguments[0], []
-            return [0]
-        if self.size is None:
-            return [-11]
-        if name == "direction":
-            return self.direction(arguments[0])
-        if name == "sets":
-            return [len(self.complete())]
-        if name == "set":
-            found = self.complete()
-            return [self.size, *found[arguments[0]]] if arguments[0] in range(len(found)) else [-2]
-        if any(i not in range(len(self.rows)) for i in arguments):
-            return [-2]
-        if name == "right":
-            product = self.product(*arguments)
-            return [int(product == 0), product]
-        i = arguments[0]
-        if name == "directionis":
-            return [self.size, *self.rows[i]]
-        if name == "of":
-            standing = [k for k, chosen in enumerate(self.complete()) if i in chosen]
-            return [len(standing), *standing]
-        self.rows.pop(i)
-        return [len(self.rows)]
-
-    def direction(self, row):
-        if len(row) != self.size or not set(row) <= set(range(-3, 4)) or set(row) == {0}:
-            return [-22]
-        if shortest(row) in [shortest(other) for other in self.rows]:
-            return [-17]
-        if len(self.rows) == 24:
-            return [-28]
-        self.rows.append(list(row))
-        return [len(self.rows) - 1]
+ALONE = ("sets", "way", "ways", "seen", "needed", "state")
 
 
 def some_row(source, size):
@@ -85,17 +24,64 @@ def some_index(source, most):
     return source.choice((source.randrange(most), source.randrange(most), source.randrange(most), most, LARGEST))
 
 
+def some_rising(source, below, longest):
+    """Mostly rising and of what there may be; but sometimes not."""
+    row = sorted(source.sample(range(below), source.randrange(min(below, 5) + 1)))
+    if row and source.random() < 0.1:
+        row.insert(source.randrange(len(row)), source.choice(row))
+    if source.random() < 0.1:
+        source.shuffle(row)
+    if source.random() < 0.05:
+        row.append(source.choice((below, LARGEST)))
+    if source.random() < 0.02:
+        row = list(range(longest))
+    return row
+
+
 def some_call(source, size):
     name = source.choice(
-        ["direction"] * 8 + ["directionis", "right", "right", "sets", "set", "set", "of", "of"] + ["remove"] * 2
+        ["direction"] * 12 + ["remove"] * 3 + ["directionis", "right", "set", "of", "fits", "fits", "fits", "shows"]
+        + list(ALONE)
     )
+    if name in ALONE:
+        return (name,)
     if name == "direction":
         return name, some_row(source, size)
-    if name == "sets":
-        return (name,)
+    if name == "fits":
+        return name, some_rising(source, 8, 30)
+    if name == "shows":
+        return name, some_rising(source, 5, 60)
     if name == "right":
         return name, some_index(source, 12), some_index(source, 12)
     return name, some_index(source, 12)
+
+
+def some_line(source, steps):
+    size = source.choice((2, 3, 4))
+    calls = [("begin", size)] if source.random() < 0.9 else []
+    for step in range(steps):
+        if source.random() < 0.01:
+            wanted = source.choice((0, 1, 2, 3, 4, 5, LARGEST))
+            calls.append(("begin", wanted))
+            size = wanted if wanted in (2, 3, 4) else size
+        calls.append(some_call(source, size))
+    return calls
+
+
+def line_through(source, family):
+    """Puts directions in, some turned about, asks, takes one out, and asks again, some times over."""
+    rows = []
+    for row in family:
+        sign = source.choice((1, -1))
+        rows.append([sign * number for number in row])
+    source.shuffle(rows)
+    calls = [("begin", 4)] + [("direction", row) for row in rows]
+    for left in range(len(rows), len(rows) - 6, -1):
+        calls += [(name,) for name in ALONE]
+        calls += [("set", source.randrange(8)), ("of", source.randrange(10)), ("fits", some_rising(source, left, 30))]
+        calls += [("shows", some_rising(source, 9, 60)), ("shows", list(range(9)))]
+        calls.append(("remove", source.randrange(left)))
+    return calls
 
 
 class AgainstModel(unittest.TestCase):
@@ -103,19 +89,22 @@ class AgainstModel(unittest.TestCase):
         model = Model()
         expected = [model.answer(*call) for call in calls]
         self.assertEqual(ask(*calls), expected, calls)
+        return expected
 
     def test_lines_of_all_sorts(self):
+        made = set()
+        answered = set()
         for seed in range(150):
-            source = random.Random(seed)
-            size = source.choice((2, 3, 4))
-            calls = [("begin", size)] if source.random() < 0.9 else []
-            for step in range(60):
-                if source.random() < 0.01:
-                    wanted = source.choice((0, 1, 2, 3, 4, 5, LARGEST))
-                    calls.append(("begin", wanted))
-                    size = wanted if wanted in (2, 3, 4) else size
-                calls.append(some_call(source, size))
-            self.check(calls)
+            calls = some_line(random.Random(seed), 60)
+            expected = self.check(calls)
+            made.update(call[0] for call in calls)
+            answered.update((call[0], answer[0]) for call, answer in zip(calls, expected))
+        self.assertEqual(made, set(NUMBERS))
+        for name, number in (
+            ("begin", -22), ("direction", -22), ("direction", -17), ("remove", -2), ("set", -2), ("of", -2),
+            ("fits", -22), ("fits", 0), ("fits", 1), ("ways", -75), ("shows", -22), ("needed", -6), ("state", -11),
+        ):
+            self.assertIn((name, number), answered)
 
     def test_a_line_of_400_calls_with_ever_new_complete_sets(self):
         calls = [("begin", 4)] + [("direction", list(row)) for row in TWENTY_FOUR]
@@ -126,17 +115,9 @@ class AgainstModel(unittest.TestCase):
         self.check(calls)
 
     def test_directions_that_are_rich_in_complete_sets(self):
-        for seed in range(12):
-            source = random.Random(seed)
-            rows = [list(row) for row in source.choice((EIGHTEEN, TWENTY_FOUR))]
-            source.shuffle(rows)
-            calls = [("begin", 4)] + [("direction", row) for row in rows]
-            for step in range(8):
-                calls.append(("remove", source.randrange(len(rows) - step)))
-                calls.append(("sets",))
-                calls.append(("set", source.randrange(8)))
-                calls.append(("of", source.randrange(10)))
-            self.check(calls)
+        families = (EIGHTEEN, EIGHTEEN + OTHER_SIX[:3], TWENTY_FOUR, TWENTY_TWO, two_planes(6), SIX_APART)
+        for seed in range(36):
+            self.check(line_through(random.Random(seed), families[seed % 6]))
 
 
 if __name__ == "__main__":

@@ -3,8 +3,8 @@ import io
 import unittest
 
 from cantcolour.space import answers
-from tests.examples import AXES_3, EIGHTEEN, TWENTY_FOUR
-from tests.lines import LARGEST, ask, look, space_of, write
+from tests.examples import AXES_3, EIGHTEEN, SIX_APART, TWENTY_FOUR
+from tests.lines import LARGEST, ask, look, look_all, space_of, write
 
 
 class Unchanged(list):
@@ -22,6 +22,11 @@ LINES = [
     write(space_of(4, EIGHTEEN) + [("set", 8), ("of", 17), ("begin", 2), ("sets",), ("direction", [0, 1])]),
     write([("sets",), ("begin", 9), ("direction", [4, -2147483648, 2147483647, 0, 0, 0]), ("set", LARGEST)]),
     write(space_of(4, TWENTY_FOUR) + [("direction", [1, 2, 3, 0]), ("direction", [2, 0, 0, 0]), ("sets",)]),
+    write(space_of(3, AXES_3) + look_all(3, 1) + [("remove", 1)] + look_all(2, 0) + look_all(2, 0)),
+    write(space_of(4, EIGHTEEN) + look_all(18, 9) + [("fits", [1, 0]), ("shows", [9])]),
+    write(space_of(4, EIGHTEEN) + look_all(18, 9) + [("remove", 0)] + look_all(17, 7)),
+    write(space_of(4, SIX_APART) + look_all(24, 6) + [("fits", [LARGEST]), ("shows", [LARGEST])]),
+    write([("way",), ("ways",), ("seen",), ("needed",), ("state",), ("fits", [0]), ("shows", [])]),
 ]
 
 
@@ -68,6 +73,69 @@ class Form(unittest.TestCase):
             2, 1, 0,
         ])
 
+    def test_marking_and_showing_number_by_number(self):
+        line = [
+            14,
+            0, 2,
+            14,
+            9,
+            10,
+            8, 0,
+            1, 2, 3, 1,
+            1, 2, 1, -3,
+            1, 2, 1, 1,
+            14,
+            8, 1, 1,
+            8, 2, 0, 2,
+            8, 2, 0, 1,
+            8, 2, 2, 0,
+            8, 1, 3,
+            9,
+            10,
+            11, 0,
+            11, 1, 0,
+            11, 1, 1,
+            12,
+            13,
+            2, 0,
+            9,
+            10,
+            14,
+        ]
+        self.assertEqual(answers(line), [
+            1, -11,
+            1, 0,
+            3, 2, 0, 0,
+            1, 0,
+            1, 1,
+            1, 1,
+            1, 0,
+            1, 1,
+            1, 2,
+            3, 2, 3, 2,
+            1, 1,
+            1, 1,
+            1, 0,
+            1, -22,
+            1, -22,
+            2, 1, 1,
+            1, 4,
+            1, 0,
+            1, 0,
+            1, -22,
+            1, 0,
+            1, -6,
+            1, 2,
+            1, 0,
+            1, 4,
+            3, 2, 2, 0,
+        ])
+
+    def test_eighteen_in_nine_number_by_number(self):
+        line = write(space_of(4, EIGHTEEN)) + [9, 10, 11, 9, 0, 1, 2, 3, 4, 5, 6, 7, 8, 12, 13, 14]
+        expected = [1, -33, 1, 0, 1, 1, 1, 1, 19, 18] + list(range(18)) + [3, 4, 18, 36]
+        self.assertEqual(answers(line)[2 * 19:], expected)
+
     def test_rows_of_every_size_are_passed_over(self):
         # The numbers of the rows are those of calls, so that a wrong step shows.
         for number, most in ((1, 6), (8, 30), (11, 60)):
@@ -75,6 +143,9 @@ class Form(unittest.TestCase):
                 self.assertEqual(answers([number, size] + [5] * size + [0, 3, 5]), [1, -11, 1, 0, 1, 0])
         for size in (0, 1, 2, 4, 5, 6):
             self.assertEqual(answers([0, 3, 1, size] + [5] * size + [5]), [1, 0, 1, -22, 1, 0])
+        for number, most in ((8, 30), (11, 60)):
+            for size in range(1, most + 1):
+                self.assertEqual(answers([0, 3, number, size] + [5] * size + [5]), [1, 0, 1, -22, 1, 0])
 
     def test_one_call_alone(self):
         self.assertEqual(answers([0, 2]), [1, 0])
@@ -85,6 +156,8 @@ class Form(unittest.TestCase):
         calls = space_of(4, TWENTY_FOUR)
         self.assertEqual(ask(*calls, *[("sets",)] * (400 - len(calls)))[25:], [[24]] * 375)
         self.assertEqual(answers(([11, 60] + [LARGEST] * 60) * 400), [1, -11] * 400)
+        self.assertEqual(answers([0, 4] + ([11, 60] + [LARGEST] * 60) * 399), [1, 0] + [1, -22] * 399)
+        self.assertEqual(answers([0, 4] + ([8, 30] + [LARGEST] * 30) * 399), [1, 0] + [1, -22] * 399)
 
     def test_whole_numbers_in_a_list(self):
         for line in LINES:
